@@ -1,0 +1,1 @@
+"""Stopdesk: programs that are stopped and looked at, over a wire."""

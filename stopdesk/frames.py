@@ -25,7 +25,8 @@ class Frame:
 
     def move_on(self):
         """Leaves its deed behind."""
-        self.blocks[-1].at += 1
+        block = self.blocks[-1]
+        block.at += 1
 
     def enter(self, deeds, rounds):
         """Does a body next, so often."""

@@ -25,7 +25,8 @@ class Machine:
     def __init__(self, program):
         check_program(program)
         cells, funs, hands = program
-        self.many_names = [fun[1] for fun in funs]
+        # How many names each fun has.
+        self.names_of = [fun[1] for fun in funs]
         self.layout = Layout(funs)
         self.held = list(cells)
         self.spoken = []
@@ -68,7 +69,7 @@ class Machine:
         self.up = (number + 1) % len(self.hands)
 
     def _begun(self, fun, handed):
-        names = handed + [0] * (self.many_names[fun] - len(handed))
+        names = handed + [0] * (self.names_of[fun] - len(handed))
         return Frame(fun, names, self.layout.bodies[fun])
 
     def _call(self, hand, frame, told):

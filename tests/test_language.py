@@ -108,6 +108,11 @@ class Language(unittest.TestCase):
             if isinstance(node.ctx, ast.Store):
                 self.assertNotIn(node.attr, own, where)
 
+    def test_attributes_are_assigned_through_a_local_name(self):
+        for where, node in self.nodes(ast.Attribute):
+            if isinstance(node.ctx, ast.Store):
+                self.assertIsInstance(node.value, ast.Name, where)
+
 
 if __name__ == "__main__":
     unittest.main()

@@ -41,14 +41,28 @@ class Going:
         self.machine.do_next()
         self.done += 1
 
+    def finish(self):
+        """Goes on to the end; what ended it."""
+        ending = self.ending()
+        while ending is None:
+            self.do_deed()
+            ending = self.ending()
+        return ending
+
+    def halting(self):
+        """What ends the going ahead of the next deed if a halt of it was asked."""
+        ending = self.ending()
+        if ending is None:
+            ending = ("halted",) + self._next_deed()
+        return ending
+
     def ending(self):
         """What ends the going ahead of the next deed, or None if it goes on."""
         if self.machine.all_ended():
             return ("over",)
         if self.hand is not None and not self.machine.hands[self.hand].frames:
             return ("ended", self.hand)
-        hand = self.machine.next_hand()
-        place = self.machine.next_frame().deed().place
+        hand, place = self._next_deed()
         number = self._stop_met()
         if number is not None:
             return ("stop", hand, place, number)
@@ -57,6 +71,10 @@ class Going:
         if self.done >= self.many:
             return ("paused", hand, place)
         return None
+
+    def _next_deed(self):
+        """The hand and the place of the next deed."""
+        return self.machine.next_hand(), self.machine.next_frame().deed().place
 
     def _stop_met(self):
         """The least number of the stops that the next deed meets, or None."""

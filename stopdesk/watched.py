@@ -42,20 +42,28 @@ class Watched:
 
     def go(self, many):
         """Goes on for at most so many deeds; what ended it."""
-        check_count(many)
-        if self.is_over():
-            raise Ended("all hands are at their end")
-        return _gone(Going(self.machine, self.stops, None, None, many))
+        return self.begin_go(many).finish()
 
     def step(self, hand, way, many):
         """Goes on until a hand has stepped in, over or out; what ended it."""
+        return self.begin_step(hand, way, many).finish()
+
+    def begin_go(self, many):
+        """The going of a go, ahead of its first deed."""
+        check_count(many)
+        if self.is_over():
+            raise Ended("all hands are at their end")
+        return Going(self.machine, self.stops, None, None, many)
+
+    def begin_step(self, hand, way, many):
+        """The going of a step, ahead of its first deed."""
         self._check_hand(hand)
         if way not in ("in", "over", "out"):
             raise BadWay("a way is in, over or out")
         check_count(many)
         if not self.machine.hands[hand].frames:
             raise Ended("this hand is at its end")
-        return _gone(Going(self.machine, self.stops, hand, way, many))
+        return Going(self.machine, self.stops, hand, way, many)
 
     def stack(self, hand):
         """(fun, place) of a hand's funs under way, the innermost first."""
@@ -109,11 +117,3 @@ class Watched:
 def _check_number(number):
     if not can_be_held(number):
         raise BadNumber("a number is from 0 to 10006")
-
-
-def _gone(going):
-    ending = going.ending()
-    while ending is None:
-        going.do_deed()
-        ending = going.ending()
-    return ending

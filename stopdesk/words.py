@@ -51,3 +51,8 @@ def things_within(thing, is_deed):
         elif kind == "body":
             found.extend([(deed, True) for deed in what])
     return found
+
+
+def joins_parts(word):
+    """Whether it is the word of a part that stands ahead of two others."""
+    return PARTS.get(word) == ("part", "part")

@@ -73,3 +73,13 @@ COUNTING = (
 
 # A hand that does six says, places 0 to 5.
 SIX = one_fun(say(1), say(2), say(3), say(4), say(5), say(6))
+
+# Two hands, each of hundreds of deeds: one counts in cell 0, the other says it.
+LONG = (
+    (0,),
+    (
+        (0, 0, (("again", num(9), (("again", num(9), (("put", 0, ("add", cell(0), num(1))),)),)),)),
+        (0, 1, (("again", num(9), (("set", 0, cell(0)), ("again", num(9), (("say", name(0)),)))),)),
+    ),
+    (0, 1),
+)

@@ -12,7 +12,7 @@ BUILTINS = set("""len range enumerate zip min max sum abs sorted reversed int st
     ord repr any all divmod super ValueError TypeError KeyError IndexError LookupError""".split())
 METHODS = set("""append clear copy count endswith extend find get index insert isalnum isalpha isdigit islower isspace
     isupper items join keys ljust lower lstrip partition pop remove replace reverse rfind rjust rpartition rsplit
-    rstrip setdefault split splitlines startswith strip update upper values zfill bit_length""".split())
+    rstrip setdefault split splitlines startswith strip update upper values zfill bit_length isascii""".split())
 BARRED_NODES = (ast.Global, ast.AsyncFunctionDef, ast.AsyncFor, ast.AsyncWith, ast.Await, ast.Import, ast.Div)
 BARRED_WORDS = re.compile(r"\b(type|typing|enum|Enum|ABC|namedtuple|Protocol|Generic|register|mro|elements|open|input"
                           r"|law|eval|exec|exit|globals|locals|vars|dir|id)\b")

@@ -5,7 +5,10 @@ import unittest
 from samples import NESTED, cell, name, num, one_fun, say
 from stopdesk.errors import BadProgram
 from stopdesk.machine import plain
+from stopdesk.notes import read, written
 from stopdesk.watched import Watched
+from stopdesk.wire import Post
+from stopdesk.wishes import answered
 
 FUN = (0, 1, ())
 
@@ -13,7 +16,8 @@ FUN = (0, 1, ())
 class Case(unittest.TestCase):
     def refused(self, program, at, why):
         for make in (lambda: plain(program, 10), lambda: plain(program, -1), lambda: plain(program, 2001),
-                     lambda: Watched(program)):
+                     lambda: Watched(program), lambda: answered(program, []), lambda: answered(program, [("go", -1)]),
+                     lambda: Post(program), lambda: written(program)):
             with self.assertRaises(BadProgram) as caught:
                 make()
             self.assertEqual((caught.exception.at, caught.exception.why), (at, why), program)
@@ -21,6 +25,9 @@ class Case(unittest.TestCase):
     def fine(self, program):
         plain(program, 2000)
         Watched(program)
+        answered(program, [("go", 2000)])
+        Post(program)
+        self.assertEqual(read(written(program)), program)
 
     def body_refused(self, at, why, *body, **more):
         self.refused(one_fun(*body, **more), at, why)

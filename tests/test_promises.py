@@ -4,11 +4,16 @@ import copy
 import inspect
 import unittest
 
-from samples import COUNTING, NESTED, SIX, cell, name, num
-from stopdesk import machine, watched
-from stopdesk.errors import BadCount, BadNumber, BadPlace, BadWay, BadWish, DeskError, Full, NoFrame, NoHand, NoStop
+from samples import COUNTING, LONG, NESTED, SIX, cell, name, num
+from stopdesk import machine, notes, watched, wire, wishes
+from stopdesk.errors import (BadCount, BadNumber, BadPlace, BadProgram, BadText, BadWay, BadWish, DeskError, Full, NoFrame,
+                             NoHand, NoStop)
 from stopdesk.machine import plain
+from stopdesk.notes import read, written
 from stopdesk.watched import Watched
+from stopdesk.wire import Desk, Post
+from stopdesk.wishes import answered
+from wires import asked, rounds
 
 METHODS = {
     "stop": ("place", "hand", "wish"),
@@ -23,6 +28,17 @@ METHODS = {
     "said": (),
     "is_over": (),
 }
+METHODS_OF_POST = {"turn": (), "is_going": (), "letters": (), "hear": ("what",)}
+METHODS_OF_DESK = {"ask": ("wish",), "halt": ("number",), "answers": (), "letters": (), "hear": ("what",),
+                   "is_waiting": ()}
+FUNCTIONS = ((machine, "plain", ["program", "many"]), (wishes, "answered", ["program", "wishes"]),
+             (notes, "written", ["program"]), (notes, "read", ["text"]))
+CLASSES = ((watched, "Watched", ["program"], METHODS), (wire, "Post", ["program"], METHODS_OF_POST),
+           (wire, "Desk", [], METHODS_OF_DESK))
+# Wishes of each word, of which some are refused.
+WISHES = (("stop", 3, None, ("less", cell(0), num(7))), ("stop", 99, None, None), ("go", 4), ("cells",), ("said",),
+          ("stack", 0), ("look", 0, 0), ("change", 0, 0, 0, 3), ("put", 0, 6), ("step", 0, "over", 5), ("clear", 0),
+          ("clear", 0), ("go", 2000), ("said",), ("cells",))
 
 
 def seen(desk, hands=1):
@@ -33,21 +49,23 @@ def seen(desk, hands=1):
 
 
 class Interface(unittest.TestCase):
-    def test_watched_and_its_methods(self):
-        self.assertTrue(inspect.isclass(Watched))
-        self.assertEqual(Watched.__module__, "stopdesk.watched")
-        self.assertEqual(list(inspect.signature(Watched).parameters), ["program"])
-        for method, told in METHODS.items():
-            with self.subTest(method):
-                self.assertIn(method, vars(Watched))
-                self.assertEqual(tuple(inspect.signature(vars(Watched)[method]).parameters), ("self",) + told)
+    def test_classes_and_their_methods(self):
+        for module, word, told, methods in CLASSES:
+            made = vars(module)[word]
+            self.assertTrue(inspect.isclass(made))
+            self.assertEqual(made.__module__, module.__name__)
+            self.assertEqual(list(inspect.signature(made).parameters), told)
+            for method, handed in methods.items():
+                with self.subTest(method):
+                    self.assertIn(method, vars(made))
+                    self.assertEqual(tuple(inspect.signature(vars(made)[method]).parameters), ("self",) + handed)
 
-    def test_plain(self):
-        self.assertTrue(inspect.isfunction(plain))
-        self.assertEqual(plain.__module__, "stopdesk.machine")
-        self.assertEqual(list(inspect.signature(plain).parameters), ["program", "many"])
-        self.assertIs(vars(machine)["plain"], plain)
-        self.assertIs(vars(watched)["Watched"], Watched)
+    def test_functions(self):
+        for module, word, told in FUNCTIONS:
+            made = vars(module)[word]
+            self.assertTrue(inspect.isfunction(made))
+            self.assertEqual(made.__module__, module.__name__)
+            self.assertEqual(list(inspect.signature(made).parameters), told)
 
     def test_kinds(self):
         desk = Watched(NESTED)
@@ -64,6 +82,25 @@ class Interface(unittest.TestCase):
         self.assertIs(type(desk.is_over()), bool)
         self.assertIsNone(desk.change(0, 0, 0, 1))
         self.assertIsNone(desk.put(0, 1))
+
+    def test_kinds_of_the_other_modules(self):
+        self.assertIs(type(answered(NESTED, [("cells",)])), list)
+        self.assertIs(type(written(NESTED)), str)
+        self.assertIs(type(read(written(NESTED))), tuple)
+        desk, post = Desk(), Post(NESTED)
+        self.assertIs(type(desk.ask(("go", 3))), int)
+        self.assertIsNone(desk.halt(0))
+        for told in (desk.answers(), desk.letters(), post.letters(), post.hear(desk.letters()[0])):
+            self.assertIs(type(told), list)
+        self.assertIs(desk.is_waiting(), True)
+        self.assertIs(post.is_going(), True)
+        self.assertIsNone(post.turn())
+
+    def test_place_of_a_bad_text(self):
+        with self.assertRaises(BadText) as caught:
+            read("cells 1 x")
+        self.assertEqual(vars(caught.exception), {"place": 2})
+        self.assertNotIsInstance(caught.exception, BadProgram)
 
     def test_numbers_that_are_told_are_no_truths(self):
         desk = Watched(((0,), ((0, 1, (("set", 0, ("same", num(1), num(1))), ("put", 0, ("less", num(0), num(1))),
@@ -132,7 +169,78 @@ class Copies(unittest.TestCase):
         self.assertEqual(seen(desk, 2), seen(desk, 2))
 
 
+def all_told(program):
+    """What all the parts of the package tell of a program."""
+    desk, post = asked(program, *WISHES)
+    rounds(desk, post, 60)
+    return [list(plain(program, 50)), answered(program, list(WISHES)), desk.answers(), written(program),
+            list(seen(Watched(program)))]
+
+
+def emptied(what):
+    """Empties all lists that stand in what was told."""
+    if isinstance(what, (list, tuple)):
+        for inner in what:
+            emptied(inner)
+    if isinstance(what, list):
+        what.clear()
+
+
+class ToldAgain(unittest.TestCase):
+    def test_with_another_program_between(self):
+        for program in (NESTED, COUNTING, SIX, LONG):
+            first = all_told(program)
+            kept = copy.deepcopy(first)
+            for other in (LONG, SIX, NESTED):
+                emptied(all_told(other))
+                self.assertEqual(all_told(program), kept)
+            self.assertEqual(first, kept)
+            emptied(first)
+            self.assertEqual(all_told(program), kept)
+
+    def test_of_another_program_that_is_equal(self):
+        for program in (NESTED, COUNTING):
+            emptied(all_told(program))
+            self.assertEqual(all_told(read(written(program))), all_told(program))
+
+    def test_side_by_side(self):
+        expected = list(enumerate(answered(NESTED, list(WISHES))))
+        pairs = [asked(NESTED, *WISHES) for _ in range(3)]
+        watched_one = Watched(NESTED)
+        for turn in range(60):
+            for at, (desk, post) in enumerate(pairs):
+                if turn % (at + 1) == 0:
+                    rounds(desk, post, 1)
+            if turn < 9:
+                watched_one.go(1)
+        for desk, post in pairs:
+            rounds(desk, post, 60)
+            self.assertEqual(desk.answers(), expected)
+        self.assertEqual(watched_one.said(), plain(NESTED, 2000)[0])
+
+    def test_what_the_wire_says_is_what_is_said_unwatched(self):
+        for program in (NESTED, COUNTING, SIX, LONG):
+            watching = [("stop", place, None, None) for place in range(4)]
+            watching += [("go", 2000), ("stack", 0), ("step", 0, "over", 3), ("cells",)] * 3
+            watching += [("clear", number) for number in range(4)] + [("go", 2000), ("said",), ("cells",)]
+            desk, post = asked(program, *watching)
+            rounds(desk, post, 2000)
+            self.assertEqual([answer for _, answer in desk.answers()][-2:], list(plain(program, 2000)[:2]))
+
+
 class Refusals(unittest.TestCase):
+    def test_what_a_desk_refuses_changes_nothing(self):
+        desk, post = asked(SIX, ("cells",), ("go", 3))
+        rounds(desk, post, 2)
+        before = (desk.answers(), desk.letters(), post.letters(), desk.is_waiting(), post.is_going())
+        for number in (-1, 0, 2):
+            with self.assertRaises(NoStop):
+                desk.halt(number)
+        self.assertEqual((desk.answers(), desk.letters(), post.letters(), desk.is_waiting(), post.is_going()), before)
+        self.assertEqual(desk.ask(("said",)), 2)
+        rounds(desk, post, 15)
+        self.assertEqual(desk.answers(), [(0, [0]), (1, ("paused", 0, 3)), (2, [(0, 1), (0, 2), (0, 3)])])
+
     def test_what_is_refused_changes_nothing(self):
         desk = Watched(NESTED)
         desk.stop(8, None, None)

@@ -1,72 +1,12 @@
 """Programs and goings that are made by chance (always the same), against tests/slow.py."""
 
-import random
 import unittest
 
+from made import programs
 from slow import Slow
-from stopdesk.errors import BadProgram, Ended, NoStop
+from stopdesk.errors import Ended, NoStop
 from stopdesk.machine import plain
 from stopdesk.watched import Watched
-
-
-class Maker:
-    """Makes programs; what it is handed is a random.Random."""
-
-    def __init__(self, chance):
-        self.chance = chance
-        self.cells = chance.randint(1, 3)
-        self.params = [0] + [chance.randint(0, 2) for _ in range(chance.randint(0, 3))]
-        self.names = [chance.randint(max(1, params), 4) for params in self.params]
-
-    def program(self):
-        free = [fun for fun, params in enumerate(self.params) if params == 0]
-        cells = tuple(self.chance.choice((0, 1, 2, 10006)) for _ in range(self.cells))
-        funs = tuple((params, self.names[fun], self.body(fun, 2, 4)) for fun, params in enumerate(self.params))
-        return cells, funs, tuple(self.chance.choice(free) for _ in range(self.chance.randint(1, 3)))
-
-    def body(self, fun, deep, most):
-        return tuple(self.deed(fun, deep) for _ in range(self.chance.randint(0, most)))
-
-    def deed(self, fun, deep):
-        name = self.chance.randrange(self.names[fun])
-        word = self.chance.choice(("set", "set", "put", "say", "say", "call", "call", "return", "if", "again"))
-        if word == "set":
-            return (word, name, self.part(fun))
-        if word == "put":
-            return (word, self.chance.randrange(self.cells), self.part(fun))
-        if word == "call":
-            called = self.chance.randrange(len(self.params))
-            return (word, called, tuple(self.part(fun) for _ in range(self.params[called])), name)
-        if word == "if" and deep:
-            return (word, self.part(fun), self.body(fun, deep - 1, 2), self.body(fun, deep - 1, 2))
-        if word == "again" and deep:
-            return (word, self.part(fun), self.body(fun, deep - 1, 3))
-        return ("return" if word == "return" and self.chance.random() < 0.3 else "say", self.part(fun))
-
-    def part(self, fun, deep=2):
-        word = self.chance.choice(("num", "name", "cell", "add", "take", "times", "less", "same"))
-        if word == "name":
-            return (word, self.chance.randrange(self.names[fun]))
-        if word == "cell":
-            return (word, self.chance.randrange(self.cells))
-        if word == "num" or deep == 0:
-            return ("num", self.chance.choice((0, 1, 2, 3, 5, 10, 10006)))
-        return (word, self.part(fun, deep - 1), self.part(fun, deep - 1))
-
-
-def programs(many):
-    """So many (chance, maker, program), none of more than a hundred things."""
-    chance = random.Random(20)
-    while many:
-        maker = Maker(chance)
-        program = maker.program()
-        try:
-            Watched(program)
-        except BadProgram as refused:
-            assert refused.why == "many", (refused.why, program)
-            continue
-        many -= 1
-        yield chance, maker, program
 
 
 class Plain(unittest.TestCase):
